@@ -26,6 +26,44 @@ func stageCalls() []func() string {
 	for _, number := range oddInts() {
 		calls = append(calls, func() string { return fmt.Sprintf("CodeWord %q", impl.CodeWord(number)) })
 	}
+	return append(calls, wireCalls()...)
+}
+
+// answer tells what a call answered, with its code.
+func answer[T any](what string, x T, code int) string {
+	return fmt.Sprintf("%s %v %d", what, x, code)
+}
+
+// wireCalls are those of the wire, on right things and on odd texts and numbers.
+func wireCalls() []func() string {
+	var calls []func() string
+	for _, part := range wireParts() {
+		inputs := slices.Clone(part.goods)
+		for _, text := range oddTexts() {
+			inputs = append(inputs, []byte(text))
+		}
+		for _, b := range inputs {
+			calls = append(calls, func() string {
+				back, x, code := part.read(b)
+				return answer("Read"+part.name, fmt.Sprint(x, back), code)
+			})
+		}
+	}
+	for i, text := range oddTexts() {
+		number := oddInts()[i%len(oddInts())]
+		r := impl.Request{Client: 1, Stamp: 1, Kind: i%4 + 1, Lease: number, Name: text}
+		x := impl.Batch{Null: i%3 == 0, Request: r, Readings: []impl.Reading{{From: number, Value: number, Mac: text}}}
+		m := impl.Message{Kind: i%5 + 1, View: number, Seq: number, From: number, Digest: text, Body: text, Mac: text}
+		list := oddTexts()[:i]
+		calls = append(calls,
+			func() string { return fmt.Sprintf("RequestOK %v", impl.RequestOK(r)) },
+			func() string { return fmt.Sprintf("MessageOK %v", impl.MessageOK(m)) },
+			func() string { b, code := impl.RequestBytes(r); return answer("RequestBytes", b, code) },
+			func() string { b, code := impl.BatchBytes(x); return answer("BatchBytes", b, code) },
+			func() string { b, code := impl.MessageBytes(m); return answer("MessageBytes", b, code) },
+			func() string { b, code := impl.ListBytes(list); return answer("ListBytes", b, code) },
+		)
+	}
 	return calls
 }
 
