@@ -101,17 +101,24 @@ func wordsText(words [8]uint32) string {
 
 // HashText tells the digits of a hash.
 func HashText(h string) (string, int) {
-	if len(h) > MaxText {
-		return "", ErrLong
-	}
-	if len(h) != HashSize {
-		return "", ErrBad
+	if code := hashFault(h); code != OK {
+		return "", code
 	}
 	digits := make([]byte, 0, 2*HashSize)
 	for i := range HashSize {
 		digits = append(digits, hexDigits[h[i]>>4], hexDigits[h[i]&15])
 	}
 	return string(digits), OK
+}
+
+func hashFault(h string) int {
+	if len(h) > MaxText {
+		return ErrLong
+	}
+	if len(h) != HashSize {
+		return ErrBad
+	}
+	return OK
 }
 
 // ReadHash reads a hash back from its digits; capitals are none of them.
@@ -146,11 +153,8 @@ func digitValue(digit byte) int {
 
 // HashBits tells the bits of a hash, the highest one of a byte first.
 func HashBits(h string) (string, int) {
-	if len(h) > MaxText {
-		return "", ErrLong
-	}
-	if len(h) != HashSize {
-		return "", ErrBad
+	if code := hashFault(h); code != OK {
+		return "", code
 	}
 	var signs [8 * HashSize]byte
 	for i := range signs {

@@ -26,7 +26,7 @@ func stageCalls() []func() string {
 	for _, number := range oddInts() {
 		calls = append(calls, func() string { return fmt.Sprintf("CodeWord %q", impl.CodeWord(number)) })
 	}
-	return append(calls, wireCalls()...)
+	return slices.Concat(calls, wireCalls(), keyCalls())
 }
 
 // answer tells what a call answered, with its code.
@@ -62,6 +62,36 @@ func wireCalls() []func() string {
 			func() string { b, code := impl.BatchBytes(x); return answer("BatchBytes", b, code) },
 			func() string { b, code := impl.MessageBytes(m); return answer("MessageBytes", b, code) },
 			func() string { b, code := impl.ListBytes(list); return answer("ListBytes", b, code) },
+		)
+	}
+	return calls
+}
+
+// keyCalls are those of keys that sign once: odd texts as seeds, as texts to sign and within structs.
+func keyCalls() []func() string {
+	seed := sha("seed")
+	root, signed := ownRoot(seed), ownSignature(seed, 1, "text")
+	var calls []func() string
+	for i, text := range oddTexts() {
+		number := oddInts()[i%len(oddInts())]
+		c := impl.KeyChain{Seed: seed, Next: i % 10}
+		x := copyOf(signed)
+		(*listsOf(&x)[i%3])[0] = text
+		calls = append(calls,
+			func() string { a, code := impl.MessageBits(text); return answer("MessageBits", a, code) },
+			func() string { a, code := impl.SecretAt(text, 1, 2, 1); return answer("SecretAt", a, code) },
+			func() string { a, code := impl.SecretAt(seed, number, number, i); return answer("SecretAt", a, code) },
+			func() string { a, code := impl.OneTimeKey(text, i%9); return answer("OneTimeKey", a, code) },
+			func() string { a, code := impl.OneTimeKey(seed, number); return answer("OneTimeKey", a, code) },
+			func() string { a, code := impl.ChainRoot(text); return answer("ChainRoot", a, code) },
+			func() string { a, code := impl.SignAt(text, i%9, text); return answer("SignAt", a, code) },
+			func() string { a, code := impl.SignAt(seed, i%9, text); return answer("SignAt", a, code) },
+			func() string { return answer("CheckSignature", text, impl.CheckSignature(text, text, signed)) },
+			func() string { return answer("CheckSignature", text, impl.CheckSignature(root, "text", x)) },
+			func() string {
+				return fmt.Sprintf("KeyChainOK %v", impl.KeyChainOK(impl.KeyChain{Seed: text, Next: number}))
+			},
+			func() string { a, x, code := impl.SignNext(c, text); return answer("SignNext", fmt.Sprint(a, x), code) },
 		)
 	}
 	return calls
