@@ -26,7 +26,7 @@ func stageCalls() []func() string {
 	for _, number := range oddInts() {
 		calls = append(calls, func() string { return fmt.Sprintf("CodeWord %q", impl.CodeWord(number)) })
 	}
-	return slices.Concat(calls, wireCalls(), keyCalls())
+	return slices.Concat(calls, wireCalls(), keyCalls(), timeCalls())
 }
 
 // answer tells what a call answered, with its code.
@@ -92,6 +92,30 @@ func keyCalls() []func() string {
 				return fmt.Sprintf("KeyChainOK %v", impl.KeyChainOK(impl.KeyChain{Seed: text, Next: number}))
 			},
 			func() string { a, x, code := impl.SignNext(c, text); return answer("SignNext", fmt.Sprint(a, x), code) },
+		)
+	}
+	return calls
+}
+
+// timeCalls are those of agreed time: odd numbers everywhere, odd texts as marks.
+func timeCalls() []func() string {
+	var calls []func() string
+	for i, text := range oddTexts() {
+		number, other := oddInts()[i%len(oddInts())], oddInts()[i*7%len(oddInts())]
+		list := readingsOf([]int{0, 2, 3}, []int{i + 9, 5, i})
+		odd := slices.Clone(list)
+		odd[i%3] = impl.Reading{From: number, Value: other, Mac: text}
+		calls = append(calls,
+			func() string { a, code := impl.FaultsOf(number); return answer("FaultsOf", a, code) },
+			func() string { a, code := impl.MedianOf(oddInts()[:i%20]); return answer("MedianOf", a, code) },
+			func() string { a, code := impl.ReadingMac(i%7, i*i); return answer("ReadingMac", a, code) },
+			func() string { a, code := impl.ReadingMac(number, other); return answer("ReadingMac", a, code) },
+			func() string { a, code := impl.ReadingsTime(4, list); return answer("ReadingsTime", a, code) },
+			func() string { a, code := impl.ReadingsTime(4, odd); return answer("ReadingsTime", a, code) },
+			func() string { a, code := impl.ReadingsTime(number, odd); return answer("ReadingsTime", a, code) },
+			func() string { a, code := impl.AgreedTime(number, 4, list); return answer("AgreedTime", a, code) },
+			func() string { a, code := impl.AgreedTime(number, other, odd); return answer("AgreedTime", a, code) },
+			func() string { return fmt.Sprintf("AddTime %d", impl.AddTime(number, other)) },
 		)
 	}
 	return calls
