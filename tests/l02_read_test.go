@@ -141,6 +141,7 @@ func wireParts() []wirePart {
 		partOf("Batch", impl.BatchBytes, impl.ReadBatch, rightBatchBytes, batches...),
 		partOf("Message", impl.MessageBytes, impl.ReadMessage, rightMessageBytes, messages...),
 		partOf("List", impl.ListBytes, impl.ReadList, rightListBytes, lists...),
+		tablePart(),
 	}
 }
 

@@ -1,10 +1,10 @@
 package tests
 
 import (
-	"fmt"
 	"math"
 	"reflect"
 	"slices"
+	"strconv"
 	"strings"
 	"testing"
 
@@ -107,17 +107,17 @@ func TestSignCodes(t *testing.T) {
 }
 
 // askApart fails if two lists share memory, what stands behind their ends counted in.
-func askApart(t *testing.T, what string, lists ...[]string) {
+func askApart[T comparable](t *testing.T, what string, mark func(list int) T, lists ...[]T) {
 	t.Helper()
 	for i, list := range lists {
 		whole := list[:cap(list)]
 		for at := range whole {
-			whole[at] = fmt.Sprint("list ", i)
+			whole[at] = mark(i)
 		}
 	}
 	for i, list := range lists {
-		for _, text := range list[:cap(list)] {
-			if text != fmt.Sprint("list ", i) {
+		for _, x := range list[:cap(list)] {
+			if x != mark(i) {
 				t.Fatalf("%s: list %d shares memory with another one", what, i)
 			}
 		}
@@ -129,7 +129,7 @@ func TestSignatureListsAreApart(t *testing.T) {
 	x, _ := impl.SignAt(seed, 3, "text")
 	y, _ := impl.SignAt(seed, 3, "text")
 	_, z, _ := impl.SignNext(impl.KeyChain{Seed: seed, Next: 3}, "text")
-	askApart(t, "SignAt", x.Ones, x.Rest, x.Path, y.Ones, y.Rest, y.Path, z.Ones, z.Rest, z.Path)
+	askApart(t, "SignAt", strconv.Itoa, x.Ones, x.Rest, x.Path, y.Ones, y.Rest, y.Path, z.Ones, z.Rest, z.Path)
 	again, code := impl.SignAt(seed, 3, "text")
 	if code != impl.OK || !reflect.DeepEqual(again, ownSignature(seed, 3, "text")) {
 		t.Error("what was written into an answer is seen in a later one")

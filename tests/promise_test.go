@@ -26,7 +26,7 @@ func stageCalls() []func() string {
 	for _, number := range oddInts() {
 		calls = append(calls, func() string { return fmt.Sprintf("CodeWord %q", impl.CodeWord(number)) })
 	}
-	return slices.Concat(calls, wireCalls(), keyCalls(), timeCalls())
+	return slices.Concat(calls, wireCalls(), keyCalls(), timeCalls(), lockCalls())
 }
 
 // answer tells what a call answered, with its code.
@@ -116,6 +116,46 @@ func timeCalls() []func() string {
 			func() string { a, code := impl.AgreedTime(number, 4, list); return answer("AgreedTime", a, code) },
 			func() string { a, code := impl.AgreedTime(number, other, odd); return answer("AgreedTime", a, code) },
 			func() string { return fmt.Sprintf("AddTime %d", impl.AddTime(number, other)) },
+		)
+	}
+	return calls
+}
+
+// lockCalls are those of locks: odd texts as names, odd numbers in one field after another, and drawn runs.
+func lockCalls() []func() string {
+	var calls []func() string
+	d := &drawn{seed: 31}
+	fields := tableFields()
+	for i, text := range oddTexts() {
+		number, now := oddInts()[i%len(oddInts())], []int{0, 600, topTime, -1}[i%4]
+		field := fields[i%len(fields)]
+		x, odd := someTables()[i%3], copyTable(field.base)
+		*field.at(&odd) = number
+		named := impl.Table{Next: 1, Locks: []impl.Lock{lock(text, 0, -1, 0)}}
+		r := request(i%9, 300+i, i%4+1, (i+1)%2*7, "a")
+		list, times := drawRun(d, 5*i)
+		for _, table := range []impl.Table{x, odd, named} {
+			calls = append(calls,
+				func() string { return fmt.Sprintf("TableOK %v", impl.TableOK(table)) },
+				func() string { y, code := impl.ExpireLocks(table, now); return answer("ExpireLocks", y, code) },
+				func() string { y, code := impl.ExpireLocks(table, number); return answer("ExpireLocks", y, code) },
+				func() string {
+					y, a, code := impl.ApplyRequest(table, now, r)
+					return answer("ApplyRequest", fmt.Sprint(y, a), code)
+				},
+				func() string { l, code := impl.LockAt(table, text); return answer("LockAt", l, code) },
+				func() string { l, code := impl.LockAt(table, "a"); return answer("LockAt", l, code) },
+				func() string { same, code := impl.SameTable(table, x); return answer("SameTable", same, code) },
+				func() string { b, code := impl.TableBytes(table); return answer("TableBytes", b, code) },
+				func() string { h, code := impl.TableDigest(table); return answer("TableDigest", h, code) },
+			)
+		}
+		calls = append(calls,
+			func() string {
+				y, answers, code := impl.RunRequests(list, times)
+				return answer("RunRequests", fmt.Sprint(y, answers), code)
+			},
+			func() string { grants, code := impl.GrantsOf(list, times); return answer("GrantsOf", grants, code) },
 		)
 	}
 	return calls
