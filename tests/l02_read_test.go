@@ -142,6 +142,7 @@ func wireParts() []wirePart {
 		partOf("Message", impl.MessageBytes, impl.ReadMessage, rightMessageBytes, messages...),
 		partOf("List", impl.ListBytes, impl.ReadList, rightListBytes, lists...),
 		tablePart(),
+		certPart(),
 	}
 }
 

@@ -26,7 +26,7 @@ func stageCalls() []func() string {
 	for _, number := range oddInts() {
 		calls = append(calls, func() string { return fmt.Sprintf("CodeWord %q", impl.CodeWord(number)) })
 	}
-	return slices.Concat(calls, wireCalls(), keyCalls(), timeCalls(), lockCalls())
+	return slices.Concat(calls, wireCalls(), keyCalls(), timeCalls(), lockCalls(), certCalls())
 }
 
 // answer tells what a call answered, with its code.
@@ -157,6 +157,53 @@ func lockCalls() []func() string {
 			},
 			func() string { grants, code := impl.GrantsOf(list, times); return answer("GrantsOf", grants, code) },
 		)
+	}
+	return calls
+}
+
+// certCalls are those of certificates: odd texts in one field after another, odd numbers as nodes, views and ids.
+func certCalls() []func() string {
+	var calls []func() string
+	for i, text := range oddTexts() {
+		number, nodes := oddInts()[i%len(oddInts())], []int{1, 4, 7}[i%3]
+		c, odd := at(nodes, i%3, i%8+1, body(nodes, "a")), at(nodes, number, number, text)
+		strange := impl.Message{Kind: i%5 + 1, View: number, Seq: i % 9, From: number, Digest: text, Body: text, Mac: text}
+		odd.Prepares[0].Mac = text
+		m, changeOdd := change(0, 4, c), change(0, i%6, c, odd)
+		list := changes(quorums(nodes)[0], 4)
+		list[0] = m
+		calls = append(calls,
+			func() string { a, code := impl.QuorumOf(number); return answer("QuorumOf", a, code) },
+			func() string { a, code := impl.PrimaryOf(number, nodes); return answer("PrimaryOf", a, code) },
+			func() string { a, code := impl.PrimaryOf(i, number); return answer("PrimaryOf", a, code) },
+			func() string { return fmt.Sprintf("BodyOK %v", impl.BodyOK(nodes, text)) },
+			func() string { return fmt.Sprintf("BodyOK %v", impl.BodyOK(number, c.Body)) },
+			func() string { a, code := impl.BodyDigest(text); return answer("BodyDigest", a, code) },
+			func() string { a, code := impl.SignMessage(i%8, strange); return answer("SignMessage", a, code) },
+			func() string { a, code := impl.SignMessage(number, m); return answer("SignMessage", a, code) },
+			func() string { return fmt.Sprintf("MessageSigned %v", impl.MessageSigned(nodes, strange)) },
+			func() string { return fmt.Sprintf("MessageSigned %v", impl.MessageSigned(number, m)) },
+			func() string { return fmt.Sprintf("MessageSigned %v", impl.MessageSigned(nodes, m)) },
+		)
+		for _, x := range []impl.Cert{c, odd, {Body: text}, {Body: c.Body, Prepares: []impl.Message{strange}}} {
+			calls = append(calls,
+				func() string { return fmt.Sprintf("CertOK %v", impl.CertOK(nodes, x)) },
+				func() string { return fmt.Sprintf("CertOK %v", impl.CertOK(number, x)) },
+				func() string { b, code := impl.CertBytes(x); return answer("CertBytes", b, code) },
+			)
+		}
+		for _, x := range []impl.Message{m, changeOdd, strange, changeOf(0, 4, text)} {
+			calls = append(calls,
+				func() string { a, code := impl.ViewCerts(nodes, x); return answer("ViewCerts", a, code) },
+				func() string { a, code := impl.ViewCerts(number, x); return answer("ViewCerts", a, code) },
+				func() string {
+					a, code := impl.PlanOf(nodes, 4, append([]impl.Message{x}, list[1:]...))
+					return answer("PlanOf", a, code)
+				},
+				func() string { a, code := impl.PlanOf(number, i, list); return answer("PlanOf", a, code) },
+				func() string { a, code := impl.PlanOf(nodes, number, list); return answer("PlanOf", a, code) },
+			)
+		}
 	}
 	return calls
 }
