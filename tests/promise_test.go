@@ -26,7 +26,7 @@ func stageCalls() []func() string {
 	for _, number := range oddInts() {
 		calls = append(calls, func() string { return fmt.Sprintf("CodeWord %q", impl.CodeWord(number)) })
 	}
-	return slices.Concat(calls, wireCalls(), keyCalls(), timeCalls(), lockCalls(), certCalls())
+	return slices.Concat(calls, wireCalls(), keyCalls(), timeCalls(), lockCalls(), certCalls(), replicaCalls())
 }
 
 // answer tells what a call answered, with its code.
@@ -204,6 +204,54 @@ func certCalls() []func() string {
 				func() string { a, code := impl.PlanOf(nodes, number, list); return answer("PlanOf", a, code) },
 			)
 		}
+	}
+	return calls
+}
+
+// replicaCalls are those of replicas: odd numbers and texts in one field after another, and steps of many kinds.
+func replicaCalls() []func() string {
+	var calls []func() string
+	replicas := append(readyReplicas(), someReplicas()...)
+	for i, text := range oddTexts() {
+		number, nodes := oddInts()[i%len(oddInts())], []int{1, 4, 7}[i%3]
+		r := replicas[i*5%len(replicas)]
+		odd := copyReplica(r)
+		switch i % 5 {
+		case 0:
+			odd.Id = number
+		case 1:
+			odd.Nodes, odd.View = number, number
+		case 2:
+			odd.Slots[i%8] = impl.Slot{Body: text, Prepares: []impl.Message{{Kind: i, Seq: number, From: number, Mac: text}}}
+		case 3:
+			odd.Certs[i%8] = impl.Cert{Body: text, Prepares: []impl.Message{{View: number, Digest: text}}}
+		case 4:
+			odd.Log, odd.Changes = append(odd.Log, text), append(odd.Changes, changeOf(i%8, i%22, text))
+		}
+		strange := impl.Message{Kind: i%5 + 1, View: number, Seq: i % 9, From: number, Digest: text, Body: text, Mac: text}
+		steps := append(stepsOf(r), func(r impl.Replica) (impl.Replica, []impl.Message, int) { return impl.TakeMessage(r, strange) },
+			func(r impl.Replica) (impl.Replica, []impl.Message, int) {
+				return impl.TakeMessage(r, signed(i%8, strange))
+			},
+			func(r impl.Replica) (impl.Replica, []impl.Message, int) { return impl.ProposeBody(r, text) })
+		for _, x := range []impl.Replica{r, odd, {Id: number, Nodes: number}} {
+			calls = append(calls, func() string { return fmt.Sprintf("ReplicaOK %v", impl.ReplicaOK(x)) })
+			for _, step := range steps {
+				calls = append(calls, func() string { y, sent, code := step(x); return answer("step", fmt.Sprint(y, sent), code) })
+			}
+		}
+		calls = append(calls,
+			func() string { r, code := impl.NewReplica(number, nodes); return answer("NewReplica", r, code) },
+			func() string { r, code := impl.NewReplica(i%8, number); return answer("NewReplica", r, code) },
+			func() string {
+				table, answers, code := impl.LogTable(nodes, []string{null, text, body(nodes, "a")})
+				return answer("LogTable", fmt.Sprint(table, answers), code)
+			},
+			func() string {
+				table, answers, code := impl.LogTable(number, []string{body(nodes, "a")})
+				return answer("LogTable", fmt.Sprint(table, answers), code)
+			},
+		)
 	}
 	return calls
 }
