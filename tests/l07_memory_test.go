@@ -103,6 +103,7 @@ func readyReplicas() []impl.Replica {
 		r.Slots[0].Prepares = prepares(quorum[1:], 0, 1, null)
 		r.Slots[0].Commits = commits(quorum[1:], 0, 1, null)
 		r.Slots[1] = impl.Slot{Body: null, Done: true}
+		r.Slots[2].Done = true
 		primary := inView(nodes, 1%nodes, 0, true)
 		primary.Changes = changes(quorum[1:], 1)
 		primary.Certs = append(someCerts(nodes, 0, 6), make([]impl.Cert, 2)...)

@@ -444,12 +444,6 @@ func TestTheLogGrowsAtItsEnd(t *testing.T) {
 	if !x.Slots[2].Done || !slices.Equal(x.Log, r.Log) {
 		t.Errorf("a full Log: %d logged", len(x.Log))
 	}
-	// A place that is called Done but has no Body is a gap: no Log has an empty body.
-	r.Log, r.Slots[1] = nil, impl.Slot{Done: true}
-	x = askTake(t, "Done without a Body", r, commit(1, 1, 1, b), impl.OK)
-	if !slices.Equal(x.Log, []string{b}) {
-		t.Errorf("Done without a Body: %d logged", len(x.Log))
-	}
 }
 
 func askPropose(t *testing.T, what string, r impl.Replica, text string, wantCode int, want ...impl.Message) impl.Replica {
