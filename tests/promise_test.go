@@ -26,7 +26,7 @@ func stageCalls() []func() string {
 	for _, number := range oddInts() {
 		calls = append(calls, func() string { return fmt.Sprintf("CodeWord %q", impl.CodeWord(number)) })
 	}
-	return slices.Concat(calls, wireCalls(), keyCalls(), timeCalls(), lockCalls(), certCalls(), replicaCalls())
+	return slices.Concat(calls, wireCalls(), keyCalls(), timeCalls(), lockCalls(), certCalls(), replicaCalls(), groupCalls())
 }
 
 // answer tells what a call answered, with its code.
@@ -252,6 +252,54 @@ func replicaCalls() []func() string {
 				return answer("LogTable", fmt.Sprint(table, answers), code)
 			},
 		)
+	}
+	return calls
+}
+
+// groupCalls are those of groups: odd numbers and texts in one field after another, acts of every kind.
+func groupCalls() []func() string {
+	var calls []func() string
+	groups := []impl.Group{freshGroup(1), freshGroup(4, 2), busyGroup(4, 5, 1), busyGroup(7, 3, 0, 6)}
+	for i, text := range oddTexts() {
+		number, g := oddInts()[i%len(oddInts())], groups[i%4]
+		odd := copyGroup(g)
+		switch i % 6 {
+		case 0:
+			odd.Nodes = number
+		case 1:
+			odd.Faulty = []int{number}
+		case 2:
+			odd.Replicas[0].Id = number
+		case 3:
+			odd.Replicas[0].Log = []string{text}
+		case 4:
+			odd.Wire = append(odd.Wire, impl.Parcel{To: number, Message: impl.Message{Mac: text}})
+		case 5:
+			odd.Sent = append(odd.Sent, impl.Message{Kind: i, From: number, Body: text})
+		}
+		acts := append(actsOf(g)[i%3*5:][:5:5], impl.GroupAct{Kind: i % 8, Node: number, N: i % 5, Request: rightRequest(1), Message: impl.Message{Digest: text}},
+			impl.GroupAct{Kind: i % 8, Node: i % 7, N: number, Request: request(number, i, i%4, i, text), Message: impl.Message{Kind: 5, Body: text}})
+		for _, x := range []impl.Group{g, odd} {
+			for _, a := range acts {
+				calls = append(calls, func() string { y, code := impl.GroupStep(x, a); return answer("GroupStep", y, code) })
+			}
+			calls = append(calls,
+				func() string { return fmt.Sprintf("GroupOK %v", impl.GroupOK(x)) },
+				func() string { log, code := impl.LongestLog(x); return answer("LongestLog", log, code) },
+				func() string { is, code := impl.LogsAgree(x); return answer("LogsAgree", is, code) },
+				func() string { is, code := impl.CertsAgree(x); return answer("CertsAgree", is, code) },
+			)
+		}
+		for _, nodes := range []int{number, 1, 4, 7} {
+			calls = append(calls,
+				func() string { g, code := impl.NewGroup(nodes, []int{i % 8}); return answer("NewGroup", g, code) },
+				func() string { g, code := impl.NewGroup(nodes, []int{number}); return answer("NewGroup", g, code) },
+				func() string {
+					g, codes, code := impl.GroupRun(nodes, nil, append(acts, proposeAndGive(i+1, 9)...))
+					return answer("GroupRun", fmt.Sprint(g, codes), code)
+				},
+			)
+		}
 	}
 	return calls
 }
