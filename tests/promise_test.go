@@ -26,7 +26,7 @@ func stageCalls() []func() string {
 	for _, number := range oddInts() {
 		calls = append(calls, func() string { return fmt.Sprintf("CodeWord %q", impl.CodeWord(number)) })
 	}
-	return slices.Concat(calls, wireCalls(), keyCalls(), timeCalls(), lockCalls(), certCalls(), replicaCalls(), groupCalls())
+	return slices.Concat(calls, wireCalls(), keyCalls(), timeCalls(), lockCalls(), certCalls(), replicaCalls(), groupCalls(), pieceCalls())
 }
 
 // answer tells what a call answered, with its code.
@@ -300,6 +300,44 @@ func groupCalls() []func() string {
 				},
 			)
 		}
+	}
+	return calls
+}
+
+// pieceCalls are those of pieces: odd texts as bytes, as pieces, as roots and in proofs, odd numbers as places and sizes.
+func pieceCalls() []func() string {
+	var calls []func() string
+	for i, text := range oddTexts() {
+		number, list := oddInts()[i%len(oddInts())], somePieces(i%64+1, i%32+1)
+		p := provedAt(list, i/2%len(list))
+		odd, oddProof := slices.Clone(list), append(slices.Clone(p.proof), text)
+		odd[i%len(list)] = text
+		for _, x := range [][]string{list, odd, {text}, oddTexts()[:i]} {
+			calls = append(calls,
+				func() string { b, code := impl.JoinPieces(x); return answer("JoinPieces", b, code) },
+				func() string { h, code := impl.PiecesRoot(x); return answer("PiecesRoot", h, code) },
+				func() string {
+					proof, code := impl.ProvePiece(x, i/2%len(list))
+					return answer("ProvePiece", proof, code)
+				},
+				func() string { proof, code := impl.ProvePiece(x, number); return answer("ProvePiece", proof, code) },
+			)
+		}
+		calls = append(calls,
+			func() string { x, code := impl.CutPieces([]byte(text)); return answer("CutPieces", x, code) },
+			func() string { x, code := impl.CutPieces(noise(uint64(i), 97*i)); return answer("CutPieces", x, code) },
+			func() string { return answer("CheckPiece", i, impl.CheckPiece(p.root, p.piece, p.at, p.size, p.proof)) },
+			func() string { return answer("CheckPiece", i, impl.CheckPiece(text, p.piece, p.at, p.size, p.proof)) },
+			func() string { return answer("CheckPiece", i, impl.CheckPiece(p.root, text, p.at, p.size, p.proof)) },
+			func() string {
+				return answer("CheckPiece", i, impl.CheckPiece(p.root, p.piece, number, p.size, p.proof))
+			},
+			func() string { return answer("CheckPiece", i, impl.CheckPiece(p.root, p.piece, p.at, number, p.proof)) },
+			func() string { return answer("CheckPiece", i, impl.CheckPiece(p.root, p.piece, number, number, nil)) },
+			func() string {
+				return answer("CheckPiece", i, impl.CheckPiece(p.root, p.piece, p.at, p.size, oddProof))
+			},
+		)
 	}
 	return calls
 }
