@@ -26,7 +26,7 @@ func stageCalls() []func() string {
 	for _, number := range oddInts() {
 		calls = append(calls, func() string { return fmt.Sprintf("CodeWord %q", impl.CodeWord(number)) })
 	}
-	return slices.Concat(calls, wireCalls(), keyCalls(), timeCalls(), lockCalls(), certCalls(), replicaCalls(), groupCalls(), pieceCalls())
+	return slices.Concat(calls, wireCalls(), keyCalls(), timeCalls(), lockCalls(), certCalls(), replicaCalls(), groupCalls(), pieceCalls(), checkpointCalls())
 }
 
 // answer tells what a call answered, with its code.
@@ -337,6 +337,68 @@ func pieceCalls() []func() string {
 			func() string {
 				return answer("CheckPiece", i, impl.CheckPiece(p.root, p.piece, p.at, p.size, oddProof))
 			},
+		)
+	}
+	return calls
+}
+
+// checkpointCalls are those of checkpoints: odd texts as roots, marks, pieces and proofs, odd numbers as nodes, voters, places and sizes.
+func checkpointCalls() []func() string {
+	var calls []func() string
+	for i, text := range oddTexts() {
+		number, nodes := oddInts()[i%len(oddInts())], nodeCounts[i%3]
+		x, from := someTables()[i%7], quorums(nodes)[i%len(quorums(nodes))]
+		odd, named, strange := handedTable(nodes, x), copyTable(x), append(slices.Clone(from[1:]), number)
+		named.Locks = append(named.Locks, lock(text, number, number, number))
+		switch i % 5 {
+		case 0:
+			odd.stable.Seq = number
+		case 1:
+			odd.stable = voted(9, odd.stable.Size, text, from...)
+		case 2:
+			odd.stable.Votes[0] = impl.Vote{From: number, Mac: text}
+		case 3:
+			odd.pieces[i%len(odd.pieces)] = text
+		case 4:
+			odd.proofs[i%len(odd.proofs)] = text
+		}
+		for _, h := range []handed{handedTable(nodes, x), odd, handedOf(nodes, somePieces(i%64+1, i%32+1))} {
+			calls = append(calls,
+				func() string { return fmt.Sprintf("StableOK %v", impl.StableOK(nodes, h.stable)) },
+				func() string { return fmt.Sprintf("StableOK %v", impl.StableOK(number, h.stable)) },
+				func() string { proofs, code := impl.ProofsOf(h.pieces); return answer("ProofsOf", proofs, code) },
+				func() string {
+					y, code := impl.InstallTable(nodes, h.stable, h.pieces, h.proofs)
+					return answer("InstallTable", y, code)
+				},
+				func() string {
+					y, code := impl.InstallTable(number, h.stable, h.pieces, h.proofs)
+					return answer("InstallTable", y, code)
+				},
+				func() string {
+					y, code := impl.InstallTable(nodes, h.stable, oddTexts()[:i], h.proofs)
+					return answer("InstallTable", y, code)
+				},
+			)
+		}
+		calls = append(calls,
+			func() string { mac, code := impl.VoteMac(i%7, i, i+1, text); return answer("VoteMac", mac, code) },
+			func() string {
+				mac, code := impl.VoteMac(number, number, i, sha("root"))
+				return answer("VoteMac", mac, code)
+			},
+			func() string {
+				mac, code := impl.VoteMac(i%7, i, number, sha("root"))
+				return answer("VoteMac", mac, code)
+			},
+			func() string { s, code := impl.MakeStable(nodes, i, x, from); return answer("MakeStable", s, code) },
+			func() string { s, code := impl.MakeStable(nodes, i, x, strange); return answer("MakeStable", s, code) },
+			func() string {
+				s, code := impl.MakeStable(nodes, number, x, from)
+				return answer("MakeStable", s, code)
+			},
+			func() string { s, code := impl.MakeStable(number, i, x, from); return answer("MakeStable", s, code) },
+			func() string { s, code := impl.MakeStable(nodes, i, named, from); return answer("MakeStable", s, code) },
 		)
 	}
 	return calls
