@@ -26,7 +26,7 @@ func stageCalls() []func() string {
 	for _, number := range oddInts() {
 		calls = append(calls, func() string { return fmt.Sprintf("CodeWord %q", impl.CodeWord(number)) })
 	}
-	return slices.Concat(calls, wireCalls(), keyCalls(), timeCalls(), lockCalls(), certCalls(), replicaCalls(), groupCalls(), pieceCalls(), checkpointCalls())
+	return slices.Concat(calls, wireCalls(), keyCalls(), timeCalls(), lockCalls(), certCalls(), replicaCalls(), groupCalls(), pieceCalls(), checkpointCalls(), replyCalls())
 }
 
 // answer tells what a call answered, with its code.
@@ -400,6 +400,45 @@ func checkpointCalls() []func() string {
 			func() string { s, code := impl.MakeStable(number, i, x, from); return answer("MakeStable", s, code) },
 			func() string { s, code := impl.MakeStable(nodes, i, named, from); return answer("MakeStable", s, code) },
 		)
+	}
+	return calls
+}
+
+// replyCalls are those of replies: odd numbers in one field after another, odd texts as marks, odd numbers as nodes, clients and stamps.
+func replyCalls() []func() string {
+	var calls []func() string
+	d := &drawn{seed: 41}
+	for i, text := range oddTexts() {
+		number, nodes := oddInts()[i%len(oddInts())], nodeCounts[i%3]
+		field := replyFields()[i%7]
+		right, odd, strange := says(i%7, someAnswers()[i%32]), says(i%7, someAnswers()[i%32]), says(i%7, someAnswers()[i%32])
+		*field.at(&odd) = number
+		strange.Mac = text
+		c := drawCrowd(d)
+		for _, r := range []impl.Reply{right, odd, marked(odd), strange} {
+			list := append(slices.Clone(c.list[:min(len(c.list), 50)]), r, right)
+			calls = append(calls,
+				func() string { mac, code := impl.ReplyMac(r); return answer("ReplyMac", mac, code) },
+				func() string {
+					made, code := impl.MakeReply(r.Node, r.Client, r.Stamp, r.Answer)
+					return answer("MakeReply", made, code)
+				},
+				func() string { return fmt.Sprintf("ReplyOK %v", impl.ReplyOK(nodes, r)) },
+				func() string { return fmt.Sprintf("ReplyOK %v", impl.ReplyOK(number, r)) },
+				func() string {
+					a, code := impl.CountReplies(nodes, askingClient, askingStamp, list)
+					return answer("CountReplies", a, code)
+				},
+				func() string {
+					a, code := impl.CountReplies(nodes, number, askingStamp, list)
+					return answer("CountReplies", a, code)
+				},
+				func() string {
+					a, code := impl.CountReplies(number, askingClient, number, slices.Repeat(list, i%4))
+					return answer("CountReplies", a, code)
+				},
+			)
+		}
 	}
 	return calls
 }
