@@ -26,7 +26,7 @@ func stageCalls() []func() string {
 	for _, number := range oddInts() {
 		calls = append(calls, func() string { return fmt.Sprintf("CodeWord %q", impl.CodeWord(number)) })
 	}
-	return slices.Concat(calls, wireCalls(), keyCalls(), timeCalls(), lockCalls(), certCalls(), replicaCalls(), groupCalls(), pieceCalls(), checkpointCalls(), replyCalls())
+	return slices.Concat(calls, wireCalls(), keyCalls(), timeCalls(), lockCalls(), certCalls(), replicaCalls(), groupCalls(), pieceCalls(), checkpointCalls(), replyCalls(), grantCalls())
 }
 
 // answer tells what a call answered, with its code.
@@ -439,6 +439,60 @@ func replyCalls() []func() string {
 				},
 			)
 		}
+	}
+	return calls
+}
+
+// grantCalls are those of grants: odd texts as names, as texts to read and as secrets, odd numbers in one field after another, as nodes and as keys.
+func grantCalls() []func() string {
+	var calls []func() string
+	for i, text := range oddTexts() {
+		number, nodes := oddInts()[i%len(oddInts())], nodeCounts[i%3]
+		g, odd, named := someGrants()[i%8], someGrants()[i%8], someGrants()[i%8]
+		*grantFields()[i%3].at(&odd) = number
+		named.Name = text
+		from := firstNodes(ownFaults[nodes] + 1)
+		strange := append(slices.Clone(from[1:]), number)
+		c := certificate(g, i%8, from...)
+		spoilt, turned := copyCertificate(c), copyCertificate(c)
+		(*listsOf(&spoilt.Signatures[0])[i%3])[0] = text
+		turned.Nodes, turned.Signatures[0].Index = strange, number
+		for _, x := range []impl.Grant{g, odd, named} {
+			calls = append(calls,
+				func() string { return fmt.Sprintf("GrantOK %v", impl.GrantOK(x)) },
+				func() string { text, code := impl.GrantText(x); return answer("GrantText", text, code) },
+				func() string { y, code := impl.ReadGrant(ownGrantText(x)); return answer("ReadGrant", y, code) },
+				func() string { n, code := impl.LaterGrant(g, x); return answer("LaterGrant", n, code) },
+				func() string { n, code := impl.LaterGrant(x, rightGrant()); return answer("LaterGrant", n, code) },
+				func() string { x, code := impl.SignGrant(i%7, i%8, x); return answer("SignGrant", x, code) },
+				func() string {
+					c, code := impl.MakeCertificate(nodes, x, from, i%8)
+					return answer("MakeCertificate", c, code)
+				},
+			)
+		}
+		for _, x := range []impl.Certificate{c, spoilt, turned} {
+			calls = append(calls,
+				func() string { return answer("CheckCertificate", i, impl.CheckCertificate(nodes, x)) },
+				func() string { return answer("CheckCertificate", i, impl.CheckCertificate(number, x)) },
+			)
+		}
+		calls = append(calls,
+			func() string { g, code := impl.ReadGrant(text); return answer("ReadGrant", g, code) },
+			func() string { h, code := impl.NodeSeed(number); return answer("NodeSeed", h, code) },
+			func() string { h, code := impl.NodeRoot(number); return answer("NodeRoot", h, code) },
+			func() string { h, code := impl.NodeRoot(i % 8); return answer("NodeRoot", h, code) },
+			func() string { x, code := impl.SignGrant(number, i%8, g); return answer("SignGrant", x, code) },
+			func() string { x, code := impl.SignGrant(i%7, number, g); return answer("SignGrant", x, code) },
+			func() string {
+				c, code := impl.MakeCertificate(nodes, g, strange, i%9)
+				return answer("MakeCertificate", c, code)
+			},
+			func() string {
+				c, code := impl.MakeCertificate(number, g, from, number)
+				return answer("MakeCertificate", c, code)
+			},
+		)
 	}
 	return calls
 }
