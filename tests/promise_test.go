@@ -26,7 +26,7 @@ func stageCalls() []func() string {
 	for _, number := range oddInts() {
 		calls = append(calls, func() string { return fmt.Sprintf("CodeWord %q", impl.CodeWord(number)) })
 	}
-	return slices.Concat(calls, wireCalls(), keyCalls(), timeCalls(), lockCalls(), certCalls(), replicaCalls(), groupCalls(), pieceCalls(), checkpointCalls(), replyCalls(), grantCalls())
+	return slices.Concat(calls, wireCalls(), keyCalls(), timeCalls(), lockCalls(), certCalls(), replicaCalls(), groupCalls(), pieceCalls(), checkpointCalls(), replyCalls(), grantCalls(), clientCalls())
 }
 
 // answer tells what a call answered, with its code.
@@ -493,6 +493,62 @@ func grantCalls() []func() string {
 				return answer("MakeCertificate", c, code)
 			},
 		)
+	}
+	return calls
+}
+
+// clientCalls are those of clients: odd numbers in one field after another, odd texts as names and as marks.
+func clientCalls() []func() string {
+	var calls []func() string
+	for i, text := range oddTexts() {
+		number, nodes := oddInts()[i%len(oddInts())], nodeCounts[i%3]
+		rests, waits, odd := restingClient(askingClient, 3), listening(), listening()
+		if nodes > 1 {
+			waits = listening(says(i%nodes, firstAnswer()))
+		}
+		switch i % 7 {
+		case 0:
+			odd.Id = number
+		case 1:
+			odd.Stamp = number
+		case 2:
+			odd.Busy = false
+		case 3:
+			odd.Request = request(number, number, number, number, text)
+		case 4:
+			odd.Request.Name = text
+		case 5:
+			odd.Replies = []impl.Reply{{Node: number, Client: askingClient, Stamp: askingStamp, Answer: firstAnswer(), Mac: text}}
+		case 6:
+			odd.Accepted[i] = told(number, number, number, number)
+		}
+		strange := says(i%nodes, someAnswers()[i%32])
+		strange.Mac = text
+		for _, c := range []impl.Client{rests, waits, odd, {Id: number, Stamp: number}} {
+			calls = append(calls,
+				func() string { return fmt.Sprintf("ClientOK %v", impl.ClientOK(nodes, c)) },
+				func() string { return fmt.Sprintf("ClientOK %v", impl.ClientOK(number, c)) },
+				func() string {
+					x, code := impl.ClientCall(nodes, c, i%6, text, i%2*30)
+					return answer("ClientCall", x, code)
+				},
+				func() string {
+					x, code := impl.ClientCall(nodes, c, impl.LkAcquire, "door", number)
+					return answer("ClientCall", x, code)
+				},
+				func() string {
+					x, code := impl.ClientCall(number, c, number, "door", 30)
+					return answer("ClientCall", x, code)
+				},
+			)
+			for _, r := range []impl.Reply{strange, says(i%nodes, firstAnswer()), reply(i%nodes, number, number, firstAnswer())} {
+				calls = append(calls,
+					func() string { x, code := impl.ClientTake(nodes, c, r); return answer("ClientTake", x, code) },
+					func() string { x, code := impl.ClientTake(number, c, r); return answer("ClientTake", x, code) },
+				)
+			}
+		}
+		calls = append(calls, func() string { c, code := impl.NewClient(number); return answer("NewClient", c, code) })
 	}
 	return calls
 }
