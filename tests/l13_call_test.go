@@ -19,7 +19,7 @@ func ownCall(nodes int, c impl.Client, kind int, name string, lease int) (impl.C
 		return impl.Client{}, impl.ErrBad
 	case c.Busy:
 		return c, impl.ErrAgain
-	case c.Stamp >= lastStamp:
+	case c.Stamp == usedStamp:
 		return c, impl.ErrUsed
 	case !ownRequestOK(r):
 		return c, impl.ErrForm
@@ -91,7 +91,7 @@ func TestCallsOfClientsThatAreNotRight(t *testing.T) {
 		}
 	}
 	for _, nodes := range noNodes() {
-		for _, c := range append(someClients(), restingClient(7, lastStamp)) {
+		for _, c := range append(someClients(), restingClient(7, usedStamp)) {
 			askNotCalled(t, "no such nodes", nodes, c, impl.LkAcquire, "door", 30, impl.ErrBad)
 			askNotCalled(t, "no such nodes", nodes, c, 9, "", -1, impl.ErrBad)
 		}
@@ -101,7 +101,7 @@ func TestCallsOfClientsThatAreNotRight(t *testing.T) {
 // Being Busy is told ahead of being used up and of a request that is not right.
 func TestCallsOfBusyClients(t *testing.T) {
 	a, b := firstAnswer(), secondAnswer()
-	clients := []impl.Client{waitingClient(0, 1), listening(), waitingClient(7, lastStamp-1), waitingClient(7, lastStamp), waitingClient(7, lastStamp+1), waitingClient(7, topStamp)}
+	clients := []impl.Client{waitingClient(0, 1), listening(), waitingClient(7, usedStamp-1), waitingClient(7, usedStamp), waitingClient(7, usedStamp+1), waitingClient(7, topStamp)}
 	for _, nodes := range nodeCounts {
 		if nodes > 1 {
 			clients = append(clients, listening(says(0, a), says(1, b)), listening(allSay(a, make([]int, 40)...)...))
@@ -119,19 +119,49 @@ func TestCallsOfBusyClients(t *testing.T) {
 	}
 }
 
-func TestCallsAtTheLastStamps(t *testing.T) {
+// One Stamp alone is used up: on both sides of it a client calls, also far beyond it.
+func TestCallsAroundTheUsedStamp(t *testing.T) {
 	for _, nodes := range nodeCounts {
-		for _, stamp := range []int{0, 1, 2, 255, 256, lastStamp - 2, lastStamp - 1} {
-			askCalled(t, nodes, restingClient(7, stamp), impl.LkAcquire, "door", 30)
-			askNotCalled(t, "a request that is not right", nodes, restingClient(7, stamp), impl.LkAcquire, "door", 0, impl.ErrForm)
-		}
-		for _, stamp := range []int{lastStamp, lastStamp + 1, lastStamp + 2, 4095, 4096, 4097, topStamp - 1, topStamp} {
+		for _, stamp := range []int{0, 1, 2, 255, 256, usedStamp - 2, usedStamp - 1, usedStamp + 1, usedStamp + 2, 4095, 4096, 4097, 2 * usedStamp, 32767, 32768, topStamp - 2, topStamp - 1} {
 			c := restingClient(7, stamp)
-			askNotCalled(t, "used up", nodes, c, impl.LkAcquire, "door", 30, impl.ErrUsed)
-			askNotCalled(t, "used up ahead of the kind", nodes, c, 5, "door", 30, impl.ErrUsed)
-			askNotCalled(t, "used up ahead of the lease", nodes, c, impl.LkRenew, "door", 0, impl.ErrUsed)
-			askNotCalled(t, "used up ahead of the name", nodes, c, impl.LkQuery, "", 0, impl.ErrUsed)
+			askCalled(t, nodes, c, impl.LkAcquire, "door", 30)
+			askCalled(t, nodes, c, impl.LkQuery, "door", 0)
+			askNotCalled(t, "a kind that is not right", nodes, c, 5, "door", 30, impl.ErrForm)
+			askNotCalled(t, "a lease that is not right", nodes, c, impl.LkAcquire, "door", 0, impl.ErrForm)
+			askNotCalled(t, "a name that is not right", nodes, c, impl.LkQuery, "", 0, impl.ErrForm)
 		}
+		c := restingClient(7, usedStamp)
+		askNotCalled(t, "used up", nodes, c, impl.LkAcquire, "door", 30, impl.ErrUsed)
+		askNotCalled(t, "used up ahead of the kind", nodes, c, 5, "door", 30, impl.ErrUsed)
+		askNotCalled(t, "used up ahead of the lease", nodes, c, impl.LkRenew, "door", 0, impl.ErrUsed)
+		askNotCalled(t, "used up ahead of the name", nodes, c, impl.LkQuery, "", 0, impl.ErrUsed)
+	}
+}
+
+// Behind the greatest Stamp no request is right, of whatever kind.
+func TestCallsAtTheGreatestStamp(t *testing.T) {
+	for _, nodes := range nodeCounts {
+		for _, id := range []int{0, 7, 255} {
+			c := restingClient(id, topStamp)
+			for kind := range 6 {
+				for _, lease := range []int{0, 30} {
+					askNotCalled(t, "the greatest Stamp", nodes, c, kind, "door", lease, impl.ErrForm)
+				}
+			}
+		}
+	}
+}
+
+// No other Stamp is used up: all near the used one are asked, and one of every thousand or so.
+func TestOneStampAloneIsUsed(t *testing.T) {
+	answers := manyAnswers(topStamp)
+	for stamp := range topStamp + 1 {
+		if stamp%997 != 0 && (stamp < usedStamp-60 || stamp > usedStamp+60) {
+			continue
+		}
+		c := impl.Client{Id: 7, Stamp: stamp, Accepted: answers[:stamp]}
+		askCallLikeOwn(t, "at rest", 4, c, impl.LkRenew, "door", 30)
+		askCallLikeOwn(t, "at rest", 4, c, impl.LkRenew, "door", 0)
 	}
 }
 
@@ -160,7 +190,7 @@ func TestCallsOfEveryKind(t *testing.T) {
 
 // A text that is too long is told ahead of all else, and then the client is an empty one.
 func TestCallsOfLongNames(t *testing.T) {
-	clients := []impl.Client{{}, restingClient(7, 5), listening(), restingClient(7, lastStamp), waitingClient(7, lastStamp+1)}
+	clients := []impl.Client{{}, restingClient(7, 5), listening(), restingClient(7, usedStamp), waitingClient(7, usedStamp+1)}
 	for _, c := range wrongClients() {
 		clients = append(clients, c)
 	}
@@ -186,7 +216,7 @@ func TestCallsOfEveryClient(t *testing.T) {
 
 // Each code ahead of those behind it, over all clients, kinds, names and leases together.
 func TestCallCodesInTheirOrder(t *testing.T) {
-	clients := append(someClients(), restingClient(7, lastStamp-1), restingClient(7, lastStamp), waitingClient(7, lastStamp), listening(says(2, firstAnswer())))
+	clients := append(someClients(), restingClient(7, usedStamp-1), restingClient(7, usedStamp), restingClient(7, usedStamp+1), restingClient(7, topStamp), waitingClient(7, usedStamp), listening(says(2, firstAnswer())))
 	for _, c := range wrongClients() {
 		clients = append(clients, c)
 	}

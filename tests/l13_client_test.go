@@ -12,7 +12,7 @@ import (
 
 const (
 	mostReplies = 40
-	lastStamp   = 4000
+	usedStamp   = 4000
 	topStamp    = 65535
 )
 
@@ -176,7 +176,7 @@ func TestClientIds(t *testing.T) {
 }
 
 func TestClientStamps(t *testing.T) {
-	for _, stamp := range []int{0, 1, 2, 255, 256, 257, 3999, lastStamp, 4001, 4095, 4096, 4097, 65534, topStamp} {
+	for _, stamp := range []int{0, 1, 2, 255, 256, 257, 3999, usedStamp, 4001, 4095, 4096, 4097, 65534, topStamp} {
 		askClients(t, "at rest", restingClient(askingClient, stamp), true)
 		askClients(t, "waiting", waitingClient(askingClient, stamp), stamp > 0)
 		askClients(t, "at rest with a Stamp more", impl.Client{Id: 7, Stamp: stamp + 1, Accepted: manyAnswers(stamp)}, false)
@@ -199,7 +199,7 @@ func TestClientStamps(t *testing.T) {
 }
 
 func TestClientsCountTheirAnswers(t *testing.T) {
-	for _, stamp := range []int{0, 1, 2, 5, askingStamp, lastStamp, topStamp} {
+	for _, stamp := range []int{0, 1, 2, 5, askingStamp, usedStamp, topStamp} {
 		for count := max(0, stamp-3); count <= stamp+2; count++ {
 			rests, waits := restingClient(askingClient, count), waitingClient(askingClient, count+1)
 			rests.Stamp, waits.Stamp, waits.Request.Stamp = stamp, stamp, stamp

@@ -261,27 +261,37 @@ func TestClientsAcceptWhatTablesAnswer(t *testing.T) {
 	}
 }
 
-// A client calls 4000 times, and no more.
+// answeredCalls lets a client call so often, each call answered by f + 1 nodes.
+func answeredCalls(t *testing.T, nodes int, c impl.Client, calls int) impl.Client {
+	t.Helper()
+	want := c.Stamp + calls
+	for range calls {
+		next, code := impl.ClientCall(nodes, c, impl.LkQuery, "door", 0)
+		if code != impl.OK {
+			t.Fatal(clientText(c), code)
+		}
+		for node := range ownFaults[nodes] + 1 {
+			next, code = impl.ClientTake(nodes, next, reply(node, c.Id, next.Stamp, thirdAnswer()))
+			if code != impl.OK {
+				t.Fatal(clientText(next), code)
+			}
+		}
+		c = next
+	}
+	if c.Stamp != want || c.Busy || len(c.Accepted) != want {
+		t.Fatal(clientText(c))
+	}
+	return c
+}
+
+// A client that began new calls 4000 times, and no more; one that was put together beyond that calls until no Stamp is left.
 func TestClientsCallToTheirEnd(t *testing.T) {
 	for _, nodes := range nodeCounts {
-		c := restingClient(9, lastStamp-3)
-		for range 3 {
-			next, code := impl.ClientCall(nodes, c, impl.LkQuery, "door", 0)
-			if code != impl.OK {
-				t.Fatal(code)
-			}
-			for node := range ownFaults[nodes] + 1 {
-				next, code = impl.ClientTake(nodes, next, reply(node, 9, next.Stamp, thirdAnswer()))
-				if code != impl.OK {
-					t.Fatal(code)
-				}
-			}
-			c = next
+		for _, row := range []struct{ from, end, code int }{{usedStamp - 3, usedStamp, impl.ErrUsed}, {topStamp - 3, topStamp, impl.ErrForm}} {
+			c := answeredCalls(t, nodes, restingClient(9, row.from), row.end-row.from)
+			askNotCalled(t, "at its end", nodes, c, impl.LkQuery, "door", 0, row.code)
+			askNotTaken(t, "at its end", nodes, c, reply(0, 9, row.end, thirdAnswer()), impl.ErrLate)
 		}
-		if c.Stamp != lastStamp || c.Busy || len(c.Accepted) != lastStamp {
-			t.Fatal(clientText(c))
-		}
-		askNotCalled(t, "at its end", nodes, c, impl.LkQuery, "door", 0, impl.ErrUsed)
-		askNotTaken(t, "at its end", nodes, c, reply(0, 9, lastStamp, thirdAnswer()), impl.ErrLate)
+		answeredCalls(t, nodes, restingClient(9, usedStamp+1), 5)
 	}
 }

@@ -48,14 +48,14 @@ func clientSteps(nodes int) []clientStep {
 
 // steppers are clients of every standing, right and not, but those of very many calls, which take long to tell.
 func steppers(nodes int) []impl.Client {
-	list := []impl.Client{listening(allSay(firstAnswer(), 0, 1)...), restingClient(askingClient, lastStamp-1), waitingClient(askingClient, 2), {Replies: []impl.Reply{}, Accepted: []impl.Answer{}}}
+	list := []impl.Client{listening(allSay(firstAnswer(), 0, 1)...), restingClient(askingClient, usedStamp-1), waitingClient(askingClient, 2), {Replies: []impl.Reply{}, Accepted: []impl.Answer{}}}
 	for _, c := range hearers(nodes) {
 		list = append(list, c)
 	}
 	for _, c := range wrongClients() {
 		list = append(list, c)
 	}
-	return slices.DeleteFunc(list, func(c impl.Client) bool { return len(c.Accepted) > lastStamp })
+	return slices.DeleteFunc(list, func(c impl.Client) bool { return len(c.Accepted) > usedStamp })
 }
 
 func TestClientArgumentsAreKept(t *testing.T) {

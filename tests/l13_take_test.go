@@ -109,9 +109,9 @@ func hearers(nodes int) map[string]impl.Client {
 	a, b := firstAnswer(), secondAnswer()
 	list := map[string]impl.Client{
 		"new": {}, "new, of the reply's Id": restingClient(askingClient, 0), "at rest at the reply's call": restingClient(askingClient, askingStamp),
-		"at rest ahead of it": restingClient(askingClient, askingStamp-1), "used up": restingClient(askingClient, lastStamp),
+		"at rest ahead of it": restingClient(askingClient, askingStamp-1), "used up": restingClient(askingClient, usedStamp),
 		"waiting": listening(), "another waiting": waitingClient(8, askingStamp), "waiting for an earlier one": waitingClient(askingClient, askingStamp-1),
-		"waiting for a later one": waitingClient(askingClient, askingStamp+1), "waiting for its last": waitingClient(askingClient, lastStamp),
+		"waiting for a later one": waitingClient(askingClient, askingStamp+1), "waiting for its last": waitingClient(askingClient, usedStamp),
 	}
 	if nodes > 1 {
 		list["with one reply"], list["full"] = listening(says(1, b)), fullOf(0, a)
@@ -154,7 +154,7 @@ func TestTakingLateReplies(t *testing.T) {
 		for what, c := range hearers(nodes) {
 			for node := range nodes {
 				for _, client := range []int{0, 6, 7, 8, 255} {
-					for _, stamp := range []int{1, askingStamp % 256, askingStamp - 1, askingStamp, askingStamp + 1, lastStamp, topStamp} {
+					for _, stamp := range []int{1, askingStamp % 256, askingStamp - 1, askingStamp, askingStamp + 1, usedStamp, topStamp} {
 						if !c.Busy || client != c.Id || stamp != c.Stamp {
 							askNotTaken(t, fmt.Sprint(what, ", to ", client, " ", stamp), nodes, c, reply(node, client, stamp, a), impl.ErrLate)
 						}
@@ -224,7 +224,7 @@ func TestTakingRepliesThatDecide(t *testing.T) {
 	for _, nodes := range nodeCounts {
 		faults := ownFaults[nodes]
 		for i, a := range someAnswers() {
-			for _, base := range []impl.Client{waitingClient(0, 1), waitingClient(255, 2), listening(), waitingClient(askingClient, lastStamp)} {
+			for _, base := range []impl.Client{waitingClient(0, 1), waitingClient(255, 2), listening(), waitingClient(askingClient, usedStamp)} {
 				c, order := base, firstNodes(nodes)
 				mix(&drawn{seed: uint64(i + 1)}, order)
 				for _, node := range order[:faults] {
@@ -235,7 +235,7 @@ func TestTakingRepliesThatDecide(t *testing.T) {
 		}
 	}
 	end := askDecided(t, "at the greatest Stamp", 1, waitingClient(3, topStamp), reply(0, 3, topStamp, firstAnswer()), firstAnswer())
-	askNotCalled(t, "at the greatest Stamp", 1, end, impl.LkQuery, "door", 0, impl.ErrUsed)
+	askNotCalled(t, "at the greatest Stamp", 1, end, impl.LkQuery, "door", 0, impl.ErrForm)
 }
 
 // What was heard of other answers goes with the call, and the next call begins with nothing heard.
