@@ -53,7 +53,7 @@ func sameClient(a, b impl.Client) bool {
 }
 
 func clientText(c impl.Client) string {
-	return fmt.Sprintf("client %d, stamp %d, busy %v, %.80v, %d replies, %d accepted", c.Id, c.Stamp, c.Busy, c.Request, len(c.Replies), len(c.Accepted))
+	return fmt.Sprintf("client %d, stamp %d, busy %v, %.80s, %d replies, %d accepted", c.Id, c.Stamp, c.Busy, fmt.Sprint(c.Request), len(c.Replies), len(c.Accepted))
 }
 
 func ownRequestOK(r impl.Request) bool {

@@ -26,7 +26,7 @@ func stageCalls() []func() string {
 	for _, number := range oddInts() {
 		calls = append(calls, func() string { return fmt.Sprintf("CodeWord %q", impl.CodeWord(number)) })
 	}
-	return slices.Concat(calls, wireCalls(), keyCalls(), timeCalls(), lockCalls(), certCalls(), replicaCalls(), groupCalls(), pieceCalls(), checkpointCalls(), replyCalls(), grantCalls(), clientCalls())
+	return slices.Concat(calls, wireCalls(), keyCalls(), timeCalls(), lockCalls(), certCalls(), replicaCalls(), groupCalls(), pieceCalls(), checkpointCalls(), replyCalls(), grantCalls(), clientCalls(), serviceCalls())
 }
 
 // answer tells what a call answered, with its code.
@@ -549,6 +549,67 @@ func clientCalls() []func() string {
 			}
 		}
 		calls = append(calls, func() string { c, code := impl.NewClient(number); return answer("NewClient", c, code) })
+	}
+	return calls
+}
+
+// serviceCalls are those of the service: odd numbers in one field after another, odd texts as names and as bodies of logs, acts of every kind.
+func serviceCalls() []func() string {
+	var calls []func() string
+	worlds := memoryWorlds()
+	for i, text := range oddTexts() {
+		number, nodes := oddInts()[i%len(oddInts())], nodeCounts[i%3]
+		w := worlds[i%len(worlds)]
+		odd := copyWorld(w)
+		switch i % 6 {
+		case 0:
+			odd.Time = number
+		case 1:
+			odd.Clients[i%3].Id = number
+		case 2:
+			odd.Clients[i%3].Stamp = number
+		case 3:
+			odd.Calls = append(odd.Calls, impl.CallRecord{Client: number, Stamp: number, Request: request(number, number, i, i, text), Begin: number, End: number})
+		case 4:
+			odd.Group.Nodes = number
+		case 5:
+			odd.Group.Replicas[0].Log = []string{text}
+		}
+		acts := append(actsOfAnyKind(w.Group.Nodes)[i%7*4:][:6:6], impl.WorldAct{Kind: i % 7, Client: 10 + i%4, Node: number, N: i, Op: i % 6, Lease: i, Name: text},
+			impl.WorldAct{Kind: i % 7, Client: number, N: number, Op: number, Lease: number, Name: text, Answer: told(number, number, number, number)},
+			impl.WorldAct{Kind: impl.SvGroup, Client: number, Group: impl.GroupAct{Kind: i % 8, Node: number, N: number, Message: impl.Message{Body: text}}})
+		for _, x := range []impl.World{w, odd} {
+			for _, a := range acts {
+				calls = append(calls, func() string { y, code := impl.WorldStep(x, a); return answer("WorldStep", y, code) })
+			}
+			calls = append(calls, func() string { return fmt.Sprintf("WorldOK %v", impl.WorldOK(x)) })
+		}
+		log := drawLog(&drawn{seed: uint64(i)}, nodes, i%20)
+		calls = append(calls,
+			func() string {
+				a, code := impl.NodeAnswer(nodes, log, 10+i%8, 1+i%3)
+				return answer("NodeAnswer", a, code)
+			},
+			func() string {
+				a, code := impl.NodeAnswer(nodes, log, number, number)
+				return answer("NodeAnswer", a, code)
+			},
+			func() string { a, code := impl.NodeAnswer(number, log, 10, 1); return answer("NodeAnswer", a, code) },
+			func() string {
+				a, code := impl.NodeAnswer(nodes, append(log[:len(log):len(log)], text), 10, 1)
+				return answer("NodeAnswer", a, code)
+			},
+			func() string { w, code := impl.NewWorld(number, nil); return answer("NewWorld", w, code) },
+			func() string { w, code := impl.NewWorld(nodes, []int{number}); return answer("NewWorld", w, code) },
+			func() string {
+				w, codes, code := impl.WorldRun(nodes, nil, append(callAndServe(10, i, 0), acts...))
+				return answer("WorldRun", fmt.Sprint(w, codes), code)
+			},
+			func() string {
+				w, codes, code := impl.WorldRun(number, []int{i % 8}, acts)
+				return answer("WorldRun", fmt.Sprint(w, codes), code)
+			},
+		)
 	}
 	return calls
 }
