@@ -279,6 +279,10 @@ func (b *bustle) askGrown(t *testing.T, what string, next impl.World) {
 func (b *bustle) askTrue(t *testing.T, what string) {
 	t.Helper()
 	log := ownLongest(b.w.Group)
+	if right, code := impl.HistoryOK(b.w); !right || code != impl.OK {
+		t.Fatalf("%s: HistoryOK %v %d:\n%s", what, right, code, worldText(b.w))
+	}
+	askTold(t, what, b.w)
 	for _, call := range b.w.Calls {
 		if call.End == -1 {
 			continue

@@ -26,7 +26,7 @@ func stageCalls() []func() string {
 	for _, number := range oddInts() {
 		calls = append(calls, func() string { return fmt.Sprintf("CodeWord %q", impl.CodeWord(number)) })
 	}
-	return slices.Concat(calls, wireCalls(), keyCalls(), timeCalls(), lockCalls(), certCalls(), replicaCalls(), groupCalls(), pieceCalls(), checkpointCalls(), replyCalls(), grantCalls(), clientCalls(), serviceCalls())
+	return slices.Concat(calls, wireCalls(), keyCalls(), timeCalls(), lockCalls(), certCalls(), replicaCalls(), groupCalls(), pieceCalls(), checkpointCalls(), replyCalls(), grantCalls(), clientCalls(), serviceCalls(), historyCalls())
 }
 
 // answer tells what a call answered, with its code.
@@ -610,6 +610,47 @@ func serviceCalls() []func() string {
 				return answer("WorldRun", fmt.Sprint(w, codes), code)
 			},
 		)
+	}
+	return calls
+}
+
+// historyCalls are those of the history: odd texts as bodies, odd numbers as nodes, clients, stamps and in one field of a world after another.
+func historyCalls() []func() string {
+	var calls []func() string
+	worlds := storyWorlds()
+	for i, text := range oddTexts() {
+		number, nodes := oddInts()[i%len(oddInts())], nodeCounts[i%3]
+		w := worlds[i%len(worlds)]
+		odd := copyWorld(w)
+		switch i % 5 {
+		case 0:
+			odd.Time = number
+		case 1:
+			odd.Group.Nodes = number
+		case 2:
+			odd.Calls = append(odd.Calls, impl.CallRecord{Client: 10 + i%3, Stamp: i, Request: request(number, i, i%5, i, text), Begin: number, End: number})
+		case 3:
+			for at := range odd.Calls {
+				odd.Calls[at].Answer = told(number, number, number, number)
+			}
+		case 4:
+			odd.Clients, odd.Group.Faulty = odd.Clients[:i%(len(odd.Clients)+1)], append(odd.Group.Faulty, number)
+		}
+		for _, x := range []impl.World{w, odd} {
+			calls = append(calls, func() string { right, code := impl.HistoryOK(x); return answer("HistoryOK", right, code) })
+		}
+		log := drawLog(&drawn{seed: uint64(900 + i)}, nodes, i%30)
+		for _, x := range [][]string{log, append(log[:len(log):len(log)], text), {text}, oddTexts()[:i], slices.Repeat([]string{text}, 100), slices.Repeat([]string{text}, 101), slices.Repeat(log, 10)} {
+			calls = append(calls,
+				func() string { place, code := impl.PlaceOf(x, 10+i%8, 1+i%3); return answer("PlaceOf", place, code) },
+				func() string { place, code := impl.PlaceOf(x, number, i%3); return answer("PlaceOf", place, code) },
+				func() string { place, code := impl.PlaceOf(x, 10, number); return answer("PlaceOf", place, code) },
+				func() string { times, code := impl.LogTimes(nodes, x); return answer("LogTimes", times, code) },
+				func() string { times, code := impl.LogTimes(number, x); return answer("LogTimes", times, code) },
+				func() string { grants, code := impl.LogGrants(nodes, x); return answer("LogGrants", grants, code) },
+				func() string { grants, code := impl.LogGrants(number, x); return answer("LogGrants", grants, code) },
+			)
+		}
 	}
 	return calls
 }
