@@ -3,6 +3,7 @@ package tests
 import (
 	"fmt"
 	"slices"
+	"strings"
 	"sync"
 	"testing"
 
@@ -26,7 +27,7 @@ func stageCalls() []func() string {
 	for _, number := range oddInts() {
 		calls = append(calls, func() string { return fmt.Sprintf("CodeWord %q", impl.CodeWord(number)) })
 	}
-	return slices.Concat(calls, wireCalls(), keyCalls(), timeCalls(), lockCalls(), certCalls(), replicaCalls(), groupCalls(), pieceCalls(), checkpointCalls(), replyCalls(), grantCalls(), clientCalls(), serviceCalls(), historyCalls())
+	return slices.Concat(calls, wireCalls(), keyCalls(), timeCalls(), lockCalls(), certCalls(), replicaCalls(), groupCalls(), pieceCalls(), checkpointCalls(), replyCalls(), grantCalls(), clientCalls(), serviceCalls(), historyCalls(), consoleCalls())
 }
 
 // answer tells what a call answered, with its code.
@@ -650,6 +651,31 @@ func historyCalls() []func() string {
 				func() string { grants, code := impl.LogGrants(nodes, x); return answer("LogGrants", grants, code) },
 				func() string { grants, code := impl.LogGrants(number, x); return answer("LogGrants", grants, code) },
 			)
+		}
+	}
+	return calls
+}
+
+// consoleCalls are those of the console: odd texts as lines, as words of lines and as whole texts, odd numbers as rounds and within lines.
+func consoleCalls() []func() string {
+	var calls []func() string
+	worlds := storyWorlds()
+	for i, text := range oddTexts() {
+		number := oddInts()[i%len(oddInts())]
+		w := worlds[i%len(worlds)]
+		drawnLines := strings.Join(drawTalk(&drawn{seed: uint64(1000 + 30*i)}, 1+i%20), "\n")
+		lines := []string{
+			text, "query 0 " + text, "acquire " + text + " a 9", "renew 1 a " + text, "timeout " + text, "time " + text, text + " 0 a", "#" + text,
+			fmt.Sprint("query ", number, " a"), fmt.Sprint("acquire 0 a ", number), fmt.Sprint("timeout ", number), fmt.Sprint("time ", number),
+		}
+		for _, line := range lines {
+			calls = append(calls, func() string { a, code := impl.ReadLine(line); return answer("ReadLine", a, code) })
+		}
+		for _, x := range []string{text, strings.Join(lines[8:], "\n"), drawnLines, drawnLines + "\n" + lines[1+i%7] + "\nquery 0 a", strings.Repeat(lines[8+i%4]+"\n", i*3)} {
+			calls = append(calls, func() string { said, code := impl.Console(x); return answer("Console", said, code) })
+		}
+		for _, rounds := range []int{number, i, 1000} {
+			calls = append(calls, func() string { x, code := impl.Settle(w, rounds); return answer("Settle", x, code) })
 		}
 	}
 	return calls
